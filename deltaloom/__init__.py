@@ -1,0 +1,1 @@
+"""Deltaloom: changing collections whose views are kept up by certified derivatives."""
