@@ -33,6 +33,8 @@ BARRED_WORDS = re.compile(
     r"\b(typing|typing_extensions|enum|Enum|IntEnum|StrEnum|Flag|IntFlag|Generic|Protocol|ABC|ABCMeta|namedtuple|"
     r"NamedTuple|TypedDict|TYPE_CHECKING|abstractmethod)\b|dataclass|overload|contextmanager"
 )
+# Those that every class may have; the operators of L5 are left out until one is needed.
+DOUBLE_UNDERSCORES = {"__init__", "__eq__", "__repr__", "__str__", "__len__", "__call__", "__iter__"}
 BARRED_NODES = (
     ast.Global, ast.Await, ast.AsyncFunctionDef, ast.AsyncFor, ast.AsyncWith, ast.Div, ast.MatMult, ast.TryStar,
 )
@@ -109,6 +111,24 @@ def breaches_of_node(node, own):
     return found
 
 
+def breaches_of_bindings(tree):
+    """Names in functions that hide a class or an import of the file (L15), and methods that are not allowed (L5)."""
+    taken = {node.name for node in tree.body if isinstance(node, ast.ClassDef)}
+    for node in tree.body:
+        if isinstance(node, ast.ImportFrom):
+            taken |= {alias.asname or alias.name for alias in node.names}
+    found = []
+    for node in ast.walk(tree):
+        name = node.arg if isinstance(node, ast.arg) else None
+        if isinstance(node, ast.Name) and isinstance(node.ctx, ast.Store):
+            name = node.id
+        if name in taken:
+            found.append(f"L15: {name} has another meaning")
+        if isinstance(node, ast.FunctionDef) and node.name.startswith("__") and node.name not in DOUBLE_UNDERSCORES:
+            found.append(f"L5: {node.name}")
+    return found
+
+
 def own_names(trees):
     """The names of the functions, methods and parameters that the files define."""
     nodes = [node for tree in trees for node in ast.walk(tree)]
@@ -121,6 +141,7 @@ def breaches(text, package, own):
     found = breaches_of_text(text)
     found += [breach for breach in map(breach_of_module_level, tree.body) if breach]
     found += breaches_of_imports(tree, package)
+    found += breaches_of_bindings(tree)
     for node in ast.walk(tree):
         found += breaches_of_node(node, own)
     found += [f"L17: {match.group()}" for match in BARRED_WORDS.finditer(text)]

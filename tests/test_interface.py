@@ -19,6 +19,13 @@ FUNCTIONS = {
         "support": ["bag"],
         "set_bag": ["rows"],
     },
+    "exprs": {"evaluate": ["e", "row"], "mapped": ["exprs", "row"]},
+    "terms": {"names_in": ["term"], "new_form": ["term"], "value": ["term", "olds", "changes"]},
+    "rules": {
+        "least_set": ["rules", "own", "sets"],
+        "updated_set": ["rules", "own", "olds", "news", "rows"],
+    },
+    "programs": {"sources": ["view"], "evaluate_program": ["program", "inputs"]},
 }
 CLASSES = {"errors": ["LoomError", "FormError", "SizeError", "NameUnknown", "NameTaken"]}
 

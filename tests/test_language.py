@@ -56,6 +56,9 @@ class Checker(unittest.TestCase):
             "def f():\n    return 'enum'\n", "def f():\n    return '\u00e9'\n", "X = 1  #\t\n",
             "def law():\n    return 1\n", "# " + "x" * 120 + "\n", "# x\n" * 400, "async def f():\n    return 1\n",
             "def f():\n" + "    x = 1\n" * 40, "def f():\n    global x\n    x = 1\n", "def f():\n    return open\n",
+            "from deltaloom.values import rank\ndef f(rank):\n    return 1\n", "class C:\n    pass\ndef f():\n    C = 1\n",
+            "from deltaloom.values import rank\ndef f(xs):\n    return [1 for rank in xs]\n",
+            "class C:\n    def __del__(self):\n        pass\n",
         ]
         for text in wrong:
             self.assertNotEqual(breaches(text, NAME, set()), [], text)

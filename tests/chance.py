@@ -1,0 +1,83 @@
+"""Bags, terms and rules by a random source with a fixed seed: the tests see the same ones in every run."""
+from deltaloom.bags import make_bag
+
+VALUES = (-1, 0, 1, 2, "", "a")
+NAMES = ("a", "b", "c")
+FOLDS = ("count", "sum", "least", "most")
+
+
+def bag(source, size=4):
+    """A bag of at most `size` rows of up to three values, with counts of both signs."""
+    rows = [tuple(source.choices(VALUES, k=source.randint(0, 3))) for _ in range(source.randint(0, size))]
+    return make_bag([(row, source.choice((-2, -1, 1, 1, 2, 3))) for row in rows])
+
+
+def bags(source):
+    """A dict from names to bags, in which a name may be missing."""
+    return {name: bag(source) for name in NAMES if source.random() < 0.8}
+
+
+def expr(source, depth=2):
+    kind = source.choice(("+", "-", "*", "=", "<", "if", "cat")) if depth and source.random() < 0.5 else "leaf"
+    if kind == "leaf":
+        return ("at", source.randint(0, 3)) if source.random() < 0.7 else ("const", source.choice(VALUES))
+    return (kind,) + tuple(expr(source, depth - 1) for _ in range(3 if kind == "if" else 2))
+
+
+def exprs(source, most=3):
+    return [expr(source) for _ in range(source.randint(0, most))]
+
+
+def term(source, depth, leaves=("old", "change", "new")):
+    """A term; with "old" alone among the leaves, a simple one."""
+    if depth == 0 or source.random() < 0.1:
+        return ("bag", bag(source)) if source.random() < 0.2 else (source.choice(leaves), source.choice(NAMES))
+    kind = source.choice(("map", "keep", "plus", "neg", "join", "once", "fold"))
+    parts = tuple(term(source, depth - 1, leaves) for _ in range(2 if kind in ("plus", "join") else 1))
+    if kind == "map":
+        return (kind, exprs(source)) + parts
+    if kind == "keep":
+        return (kind, expr(source)) + parts
+    if kind == "join":
+        many = source.randint(0, 1)
+        keys = [[("at", source.randint(0, 1)) for _ in range(many)] for _ in range(2)]
+        return (kind, keys[0], keys[1], exprs(source)) + parts
+    if kind == "fold":
+        return (kind, exprs(source, 1), source.choice(FOLDS), expr(source)) + parts
+    return (kind,) + parts
+
+
+def row_set(source, values, size, most):
+    """A set of at most `most` rows, most of them of one size."""
+    rows = [tuple(source.choices(values, k=size)) for _ in range(source.randint(0, most))]
+    if source.random() < 0.3:
+        rows.append(tuple(source.choices(values, k=source.choice((0, 1, 2, 3)))))
+    return {row: True for row in rows}
+
+
+def argument(source, variables, values):
+    return ("var", source.choice(variables)) if source.random() < 0.8 and variables else ("const", source.choice(values))
+
+
+def rule(source, own, sizes, values):
+    """A rule for the name `own`; `sizes` has the usual size of the rows of each name."""
+    def arguments(name, variables):
+        size = sizes[name] if source.random() < 0.9 else source.randint(0, 3)
+        return [argument(source, variables, values) for _ in range(size)]
+
+    body = []
+    for _ in range(source.choice((0, 1, 1, 2, 2, 2, 3))):
+        name = source.choice(sorted(sizes))
+        body.append(("yes", name, arguments(name, (0, 1, 2))))
+    bound = sorted({content for atom in body for kind, content in atom[2] if kind == "var"})
+    for _ in range(source.choice((0, 0, 1))):
+        name = source.choice([name for name in sorted(sizes) if name != own])
+        body.append(("no", name, arguments(name, bound)))
+    source.shuffle(body)
+    return (arguments(own, bound), body)
+
+
+def changed_set(source, rows, values, size):
+    """A set like the rows, of which some were lost and to which some were added."""
+    kept = {row: True for row in rows if source.random() < 0.6}
+    return {**kept, **row_set(source, values, size, 2)}
