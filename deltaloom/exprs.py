@@ -1,9 +1,7 @@
 """Expressions: values that are computed from a row."""
 
 from deltaloom.postorder import worked_out
-from deltaloom.values import rank, wrap
-
-LONGEST_TEXT = 40
+from deltaloom.values import LONGEST_TEXT, rank, wrap
 
 
 def evaluate(e, row):

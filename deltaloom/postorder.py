@@ -1,4 +1,4 @@
-"""Trees of nested tuples, worked out from the bottom up. Loops, not recursion: a tree may have any depth."""
+"""Trees of nested tuples, worked out from the bottom up and compared. Loops, not recursion: any depth will do."""
 
 
 def in_postorder(tree, parts_of):
@@ -21,3 +21,17 @@ def worked_out(tree, parts_of, result_of):
         first = len(results) - len(parts_of(part))
         results[first:] = [result_of(part, results[first:])]
     return results[0]
+
+
+def same(first, second):
+    """Return whether two trees of tuples and lists are equal."""
+    waiting = [(first, second)]
+    while waiting:
+        one, other = waiting.pop()
+        if isinstance(one, (tuple, list)) and isinstance(other, (tuple, list)):
+            if len(one) != len(other) or isinstance(one, list) != isinstance(other, list):
+                return False
+            waiting.extend(list(zip(one, other)))
+        elif one != other:
+            return False
+    return True

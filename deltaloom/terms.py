@@ -20,6 +20,17 @@ def with_parts(term, parts):
     return tuple([list(item) if isinstance(item, list) else item for item in before] + parts)
 
 
+def copied(term):
+    """Return an equal term that shares no list with the term."""
+    return worked_out(term, parts_of, with_parts)
+
+
+def placed_parts(placed):
+    """Return the pairs of position and term for the parts of a term that is given as such a pair."""
+    position, term = placed
+    return [(position + (k,), part) for k, part in enumerate(parts_of(term))]
+
+
 def names_in(term):
     """Return the names in a term in the order of their first occurrence, without duplicates."""
     parts = in_postorder(term, parts_of)

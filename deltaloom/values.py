@@ -1,7 +1,8 @@
-"""Values and rows: the range of the integers and the order."""
+"""Values and rows: their limits and their order."""
 
 SPAN = 4294967296
 LOWEST = -2147483648
+LONGEST_TEXT = 40
 
 
 def wrap(n):

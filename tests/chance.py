@@ -47,6 +47,15 @@ def term(source, depth, leaves=("old", "change", "new")):
     return (kind,) + parts
 
 
+def replaced_parts(source, term, share, other):
+    """The term with a share of its parts, or all of it, replaced by what the function `other` gives."""
+    if source.random() < share:
+        return other()
+    many = {"plus": 2, "join": 2, "old": 0, "change": 0, "new": 0, "bag": 0}.get(term[0], 1)
+    parts = term[len(term) - many:]
+    return term[:len(term) - many] + tuple(replaced_parts(source, part, share, other) for part in parts)
+
+
 def row_set(source, values, size, most):
     """A set of at most `most` rows, most of them of one size."""
     rows = [tuple(source.choices(values, k=size)) for _ in range(source.randint(0, most))]

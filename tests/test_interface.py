@@ -26,6 +26,14 @@ FUNCTIONS = {
         "updated_set": ["rules", "own", "olds", "news", "rows"],
     },
     "programs": {"sources": ["view"], "evaluate_program": ["program", "inputs"]},
+    "deriving": {"derivative": ["term"], "derivative_paper": ["term"]},
+    "rewriting": {
+        "other_side": ["identity", "forward", "term", "extra"],
+        "subterm": ["term", "position"],
+        "rewritten": ["term", "step"],
+        "paper_right": ["paper"],
+    },
+    "simplifying": {"simplified": ["term"]},
 }
 CLASSES = {"errors": ["LoomError", "FormError", "SizeError", "NameUnknown", "NameTaken"]}
 

@@ -4,7 +4,7 @@ import unittest
 
 import chance
 from deltaloom.bags import make_bag, plus
-from deltaloom.terms import names_in, new_form, value
+from deltaloom.terms import copied, names_in, new_form, placed_parts, value
 from order import row_before
 from plain_terms import counts_of
 from sharing import check_call, shared
@@ -306,6 +306,21 @@ class NewForm(TermCase):
             term, olds, changes = chance.term(source, 3, ("old",)), chance.bags(source), chance.bags(source)
             news = {name: plus(olds.get(name, []), changes.get(name, [])) for name in chance.NAMES}
             self.check(new_form(term), value(term, news, {}), olds, changes)
+
+
+class Parts(unittest.TestCase):
+    def test_parts_with_their_positions(self):
+        for term in KINDS:
+            many = {"map": 1, "keep": 1, "plus": 2, "neg": 1, "join": 2, "once": 1, "fold": 1}.get(term[0], 0)
+            wanted = [((7, k), part) for k, part in enumerate(term[len(term) - many:])]
+            self.assertEqual(placed_parts(((7,), term)), wanted)
+
+    def test_copies(self):
+        source = random.Random(32)
+        for term in KINDS + [chance.term(source, 4) for _ in range(100)]:
+            found = copied(term)
+            self.assertEqual(found, term)
+            self.assertFalse(shared(found, term))
 
 
 class Sharing(unittest.TestCase):
