@@ -28,12 +28,12 @@ def exprs(source, most=3):
     return [expr(source) for _ in range(source.randint(0, most))]
 
 
-def term(source, depth, leaves=("old", "change", "new")):
+def term(source, depth, leaves=("old", "change", "new"), names=NAMES):
     """A term; with "old" alone among the leaves, a simple one."""
     if depth == 0 or source.random() < 0.1:
-        return ("bag", bag(source)) if source.random() < 0.2 else (source.choice(leaves), source.choice(NAMES))
+        return ("bag", bag(source)) if source.random() < 0.2 else (source.choice(leaves), source.choice(names))
     kind = source.choice(("map", "keep", "plus", "neg", "join", "once", "fold"))
-    parts = tuple(term(source, depth - 1, leaves) for _ in range(2 if kind in ("plus", "join") else 1))
+    parts = tuple(term(source, depth - 1, leaves, names) for _ in range(2 if kind in ("plus", "join") else 1))
     if kind == "map":
         return (kind, exprs(source)) + parts
     if kind == "keep":
@@ -90,3 +90,36 @@ def changed_set(source, rows, values, size):
     """A set like the rows, of which some were lost and to which some were added."""
     kept = {row: True for row in rows if source.random() < 0.6}
     return {**kept, **row_set(source, values, size, 2)}
+
+
+# Values for written forms: the ends of the ranges, and texts with all that stands between things there.
+ODD_VALUES = (
+    0, 1, -1, 10, -10, 2147483647, -2147483648, "", " ", "a", "0", "-1", "(1)", "{}", "; ", ", ", ": ", "a {(1): 1}; b {}", "\\",
+    "'", "~", "!", "#", "$&", "a" * 40, "(" * 40,
+)
+
+
+def odd_bag(source, size=4):
+    """A bag for written forms, with rows of up to 8 values."""
+    rows = [tuple(source.choices(ODD_VALUES, k=source.choice((0, 1, 2, 3, 8)))) for _ in range(source.randint(0, size))]
+    # Each row once: two of the largest counts together would have 31 digits.
+    return make_bag([(row, source.choice((-1, 1, 2, -10, 10 ** 30 - 1, 1 - 10 ** 30))) for row in dict.fromkeys(rows)])
+
+
+def odd_change(source, size=3):
+    """A change for written forms; a name may come more than once."""
+    names = ("a", "z", "edge", "abcdefghijkl")
+    return [(source.choice(names), odd_bag(source)) for _ in range(source.randint(0, size))]
+
+
+def program(source):
+    """A program with the inputs of NAMES; each of its views refers to inputs and to views before it."""
+    names, views = list(NAMES), []
+    for name in ("va", "vb", "vc", "vd", "ve")[:source.randint(2, 5)]:
+        if source.random() < 0.5:
+            views.append((name, "term", term(source, source.randint(1, 2), ("old",), names)))
+        else:
+            sizes = {other: source.randint(1, 2) for other in names[-3:] + [name]}
+            views.append((name, "rules", [rule(source, name, sizes, VALUES[1:3]) for _ in range(source.randint(1, 3))]))
+        names.append(name)
+    return ("program", list(NAMES), views)

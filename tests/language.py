@@ -64,6 +64,17 @@ def breach_of_module_level(node):
     return f"L3: line {node.lineno} at module level"
 
 
+def breaches_of_tables(tree):
+    """Lists and dicts within a list, dict or tuple at module level (L15)."""
+    found = []
+    for node in tree.body:
+        if isinstance(node, ast.Assign):
+            inner = [part for part in ast.walk(node.value) if part is not node.value]
+            if [part for part in inner if isinstance(part, (ast.List, ast.Dict, ast.Set))]:
+                found.append(f"L15: line {node.lineno} has a list or dict in another one")
+    return found
+
+
 def breaches_of_imports(tree, package):
     """Breaches of L2 and L16 that one file shows."""
     found = []
@@ -99,6 +110,15 @@ def breaches_of_node(node, own):
     if isinstance(node, ast.Call) and isinstance(node.func, ast.Attribute):
         if node.func.attr not in METHODS | own and node.func.attr != "__init__":
             found.append(f"L25: method {node.func.attr}")
+        if node.func.attr in ("to_bytes", "fromhex"):
+            found.append(f"L7: {node.func.attr}")
+    if isinstance(node, ast.Call) and isinstance(node.func, ast.Name) and node.func.id == "bytes":
+        found.append("L7: bytes")
+    if isinstance(node, ast.BinOp) and isinstance(node.op, ast.Pow) and not isinstance(node.right, ast.Constant):
+        found.append("L27: an exponent")
+    if isinstance(node, ast.Compare) and [op for op in node.ops if isinstance(op, (ast.Is, ast.IsNot))]:
+        if not (isinstance(node.comparators[-1], ast.Constant) and node.comparators[-1].value in (None, True, False)):
+            found.append("L20: is")
     if isinstance(node, ast.For) or isinstance(node, ast.comprehension):
         if isinstance(node.iter, (ast.Set, ast.SetComp)):
             found.append("L24: a set is iterated")
@@ -140,6 +160,7 @@ def breaches(text, package, own):
     tree = ast.parse(text)
     found = breaches_of_text(text)
     found += [breach for breach in map(breach_of_module_level, tree.body) if breach]
+    found += breaches_of_tables(tree)
     found += breaches_of_imports(tree, package)
     found += breaches_of_bindings(tree)
     for node in ast.walk(tree):

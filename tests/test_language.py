@@ -58,7 +58,9 @@ class Checker(unittest.TestCase):
             "def f():\n" + "    x = 1\n" * 40, "def f():\n    global x\n    x = 1\n", "def f():\n    return open\n",
             "from deltaloom.values import rank\ndef f(rank):\n    return 1\n", "class C:\n    pass\ndef f():\n    C = 1\n",
             "from deltaloom.values import rank\ndef f(xs):\n    return [1 for rank in xs]\n",
-            "class C:\n    def __del__(self):\n        pass\n",
+            "class C:\n    def __del__(self):\n        pass\n", "ZERO = ('bag', [])\n", "X = {'a': {}}\n",
+            "def f(n):\n    return n is f\n", "def f(n):\n    return bytes(n)\n", "def f(n):\n    return n.to_bytes(4, 'big')\n",
+            "def f(n, k):\n    return n ** k\n", "def f(n):\n    return chr(n)\n",
         ]
         for text in wrong:
             self.assertNotEqual(breaches(text, NAME, set()), [], text)
@@ -67,7 +69,8 @@ class Checker(unittest.TestCase):
         plain = [
             '"""Words."""\n', "from deltaloom.values import rank\n", "from heapq import heappush, heappop\n",
             "LIMIT = -2147483648\n", "def f(rows):\n    return sorted(rows, key=len)\n", "def f():\n" + "    x = 1\n" * 39,
-            "# " + "x" * 118 + "\n", "# x\n" * 399, "def f(rows):\n    rows.append(1)\n    return rows.items()\n",
+            "X = ['a', 'b']\n", "X = {'a': ((), True)}\n", "def f(n):\n    return n is None or n is not True\n",
+            "def f(n):\n    return n ** 2\n", "# " + "x" * 118 + "\n", "# x\n" * 399, "def f(rows):\n    rows.append(1)\n    return rows.items()\n",
         ]
         for text in plain:
             self.assertEqual(breaches(text, NAME, set()), [], text)
