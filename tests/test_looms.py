@@ -285,7 +285,9 @@ class KeptUp(LoomCase):
             self.assertEqual((rules.call_count, terms.call_count), (0, 0))
 
     def test_a_view_that_is_not_asked_for_is_not_computed(self):
-        program = ("program", ["a"], [("v", "term", ("old", "a")), ("w", "term", ("neg", ("old", "a")))])
+        program = ("program", ["a"], [
+            ("v", "term", ("old", "a")), ("w", "term", ("neg", ("old", "a"))), ("x", "term", ("neg", ("old", "v"))),
+        ])
         loom = Loom(program)
         with mock.patch.object(looms, "value", wraps=looms.value) as computed:
             loom.feed("a", [((1,), 1)])
